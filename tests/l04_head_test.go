@@ -139,14 +139,19 @@ func setWanted(list []impl.Header, name, value string) impl.HeadersResult {
 	if code := headsWanted([]impl.Header{head(name, value)}); code != impl.OK {
 		return impl.HeadersResult{Code: code}
 	}
-	at := slices.IndexFunc(list, func(line impl.Header) bool { return strings.EqualFold(line.Name, name) })
-	if at < 0 && len(list) == 20 {
+	if len(valuesOf(list, name)) == 0 && len(list) == 20 {
 		return impl.HeadersResult{Code: impl.ErrMany}
 	}
+	return impl.HeadersResult{Headers: setAmong(list, head(name, value))}
+}
+
+// setAmong sets a line among any number of lines.
+func setAmong(list []impl.Header, line impl.Header) []impl.Header {
+	at := slices.IndexFunc(list, func(other impl.Header) bool { return strings.EqualFold(other.Name, line.Name) })
 	if at < 0 {
-		return impl.HeadersResult{Headers: append(slices.Clone(list), head(name, value))}
+		return append(slices.Clone(list), line)
 	}
-	return impl.HeadersResult{Headers: slices.Concat(list[:at], []impl.Header{head(name, value)}, othersOf(list[at:], name))}
+	return slices.Concat(list[:at], []impl.Header{line}, othersOf(list[at:], line.Name))
 }
 
 func sameHeads(a, b impl.HeadersResult) bool {

@@ -120,16 +120,11 @@ func mergeWanted(e impl.Entry, r impl.Response, a impl.Ask) impl.EntryResult {
 	if code := namesWanted(a.Names); code != impl.OK {
 		return impl.EntryResult{Code: code}
 	}
-	lines, most := e.Headers, 0
+	lines := e.Headers
 	for _, line := range r.Headers {
-		if set := setWanted(lines, line.Name, line.Value); set.Code == impl.OK {
-			lines = set.Headers
-		} else {
-			most = 99
-		}
-		most = max(most, len(lines))
+		lines = setAmong(lines, line)
 	}
-	if max(most, len(lines)) > 17 {
+	if len(lines) > 17 {
 		return impl.EntryResult{Code: impl.ErrNone}
 	}
 	told := keptWanted(e.Key, response(e.Status, string(e.Body), lines...), a)
@@ -150,15 +145,12 @@ func answerWanted(e impl.Entry, now int64, source string, only bool) impl.Respon
 	if !namePattern.MatchString(source) {
 		return impl.ResponseResult{Code: impl.ErrText}
 	}
-	aged := setWanted(e.Headers, "Age", strconv.FormatInt((age.Value-age.Value%1000)/1000, 10))
-	if aged.Code != impl.OK {
+	seconds := strconv.FormatInt((age.Value-age.Value%1000)/1000, 10)
+	lines := setAmong(setAmong(e.Headers, head("Age", seconds)), head("X-Cache", source))
+	if len(lines) > 20 {
 		return impl.ResponseResult{Code: impl.ErrMany}
 	}
-	lines := setWanted(aged.Headers, "X-Cache", source)
-	if lines.Code != impl.OK {
-		return impl.ResponseResult{Code: impl.ErrMany}
-	}
-	return impl.ResponseResult{Response: response(e.Status, bodyWanted(e.Body, only), lines.Headers...)}
+	return impl.ResponseResult{Response: response(e.Status, bodyWanted(e.Body, only), lines...)}
 }
 
 func bodyWanted(body []byte, only bool) string {
@@ -730,38 +722,58 @@ func TestMergeBoundAtTheEnd(t *testing.T) {
 	}
 }
 
-// Merged lines beyond their bound on the way: lines that go later come too late.
+// Merged lines beyond their bound on the way: only those in which each line is set are counted.
 func TestMergeBoundOnTheWay(t *testing.T) {
-	none := impl.EntryResult{Code: impl.ErrNone}
-	for alike := 1; alike <= 8; alike++ {
+	for alike := 1; alike <= 19; alike++ {
 		for others := 0; 1+others+alike <= 20; others++ {
 			own := with(with([]impl.Header{youngHead}, apartLines(others)...), sameLines(head("A", "1"), alike)...)
 			e, left := headed(plain("k"), own...), own[:1+others]
-			back, more := head("a", "2"), head("more", "x")
-			// First those that are alike go to one, and then there is one more.
-			want := none
-			if 1+others+2 <= 17 {
-				want = mergedOf(e, with(left, back, more)...)
+			back := head("a", "2")
+			for more := 0; more <= 19; more++ {
+				var told []impl.Header
+				for i := range more {
+					told = append(told, head(fmt.Sprint("more", i), "x"))
+				}
+				want := impl.EntryResult{Code: impl.ErrNone}
+				if lines := with(with(left, back), told...); len(lines) <= 17 {
+					want = mergedOf(e, lines...)
+				}
+				// Where the one stands that sends those away that are alike does not tell.
+				for _, place := range []int{0, more / 2, more} {
+					what := fmt.Sprint(more, " more and one for ", alike, " of ", len(own), ", at ", place)
+					r := response(304, "", slices.Insert(slices.Clone(told), place, back)...)
+					checkMerge(t, what, e, r, impl.Ask{Now: 60}, want)
+					if want.Code != impl.OK {
+						checkMerge(t, what+", and no time", e, r, impl.Ask{Neg: -1, Now: -1}, want)
+					} else {
+						checkMerge(t, what+", and no time", e, r, impl.Ask{Now: -1}, impl.EntryResult{Code: impl.ErrRange})
+					}
+				}
 			}
-			checkMerge(t, fmt.Sprint("one more behind ", alike, " of ", len(own)), e, response(304, "", back, more), impl.Ask{Now: 60}, want)
-			// The other way round all of them stand beside the one more.
-			want = none
-			if len(own)+1 <= 17 {
-				want = mergedOf(e, with(left, back, more)...)
-			}
-			checkMerge(t, fmt.Sprint("one more ahead of ", alike, " of ", len(own)), e, response(304, "", more, back), impl.Ask{Now: 60}, want)
-			want = none
-			if 1+others+1 <= 17 {
-				want = mergedOf(e, with(left, back)...)
-			}
-			checkMerge(t, fmt.Sprint("none more than ", alike, " of ", len(own)), e, response(304, "", back), impl.Ask{Now: 60}, want)
-			want = none
-			if len(own) <= 17 {
-				want = mergedOf(e, with(left, back)...)
-			}
-			checkMerge(t, fmt.Sprint("one that replaces ahead of ", alike, " of ", len(own)), e, response(304, "", youngHead, back), impl.Ask{Now: 60}, want)
 		}
 	}
+}
+
+// The lines of a response send away those of the entry, and those that stand ahead of them in the response, whatever the order.
+func TestMergeBoundInAnyOrder(t *testing.T) {
+	own := with([]impl.Header{youngHead}, apartLines(16)...)
+	own[3], own[9], own[16] = head("Link", "1"), head("link", "2"), head("LINK", "3")
+	e, told := headed(plain("k"), own...), []impl.Header{head("Server", "s"), head("Link", "a"), head("Date", "d"), head("server", "t")}
+	for i, order := range [][]int{{0, 1, 2, 3}, {1, 0, 2, 3}, {2, 3, 0, 1}, {3, 2, 1, 0}, {0, 2, 3, 1}, {2, 0, 1, 3}} {
+		var r []impl.Header
+		lines := own
+		for _, at := range order {
+			r, lines = append(r, told[at]), setAmong(lines, told[at])
+		}
+		if len(lines) != 17 {
+			t.Fatalf("%d lines are left", len(lines))
+		}
+		checkMerge(t, fmt.Sprint("order ", i), e, response(304, "", r...), impl.Ask{Now: 60}, mergedOf(e, lines...))
+		r = append(r, head("Via", "w"))
+		checkMerge(t, fmt.Sprint("order ", i, ", and one more"), e, response(304, "", r...), impl.Ask{Now: 60}, impl.EntryResult{Code: impl.ErrNone})
+	}
+	full := headed(plain("k"), with([]impl.Header{youngHead}, sameLines(head("Link", "a"), 19)...)...)
+	checkMerge(t, "21 on the way, 3 at the end", full, response(304, "", head("Server", "s"), head("Link", "a")), impl.Ask{Now: 60}, mergedOf(full, youngHead, head("Link", "a"), head("Server", "s")))
 }
 
 // What is renewed is told by the merged lines: its Meta, what it varies by, and its Tags.
@@ -933,10 +945,42 @@ func TestAnswerRoom(t *testing.T) {
 			checkAnswer(t, fmt.Sprint(count, " lines and both"), headed(plain("k"), with(own, head("x-cache", "9"), head("age", "9"))...), 0, "hit", false, impl.ResponseResult{Response: response(200, "", with(own, from, age)...)})
 		}
 	}
-	// An age makes room by its second line ahead of the source; a source that is there twice makes it too late.
-	checkAnswer(t, "two ages among 20", headed(plain("k"), with(apartLines(18), head("age", "8"), head("AGE", "9"))...), 0, "hit", false, impl.ResponseResult{Response: response(200, "", with(apartLines(18), age, from)...)})
-	checkAnswer(t, "two sources among 20", headed(plain("k"), with(apartLines(18), head("x-cache", "8"), head("x-cache", "9"))...), 0, "hit", false, many)
-	checkAnswer(t, "two sources among 19", headed(plain("k"), with(apartLines(17), head("x-cache", "8"), head("x-cache", "9"))...), 0, "hit", false, impl.ResponseResult{Response: response(200, "", with(apartLines(17), from, age)...)})
+}
+
+// Lines that are there twice make room, each of both for the other one: only those in which both are set are counted.
+func TestAnswerRoomOnTheWay(t *testing.T) {
+	age, from := head("Age", "2"), head("X-Cache", "hit")
+	many := impl.ResponseResult{Code: impl.ErrMany}
+	for others := range 21 {
+		for ages := 0; others+ages <= 20; ages++ {
+			for sources := 0; others+ages+sources <= 20; sources++ {
+				left := apartLines(others)
+				own := with(with(left, sameLines(head("age", "9"), ages)...), sameLines(head("x-cache", "a"), sources)...)
+				want := many
+				if others <= 18 {
+					want = impl.ResponseResult{Response: response(200, "", with(left, age, from)...)}
+				}
+				if others <= 18 && sources > 0 && ages == 0 {
+					want.Response.Headers = with(left, from, age)
+				}
+				what := fmt.Sprint(others, " lines, ", ages, " ages, ", sources, " sources")
+				e := headed(plain("k"), own...)
+				checkAnswer(t, what, e, 2000, "hit", false, want)
+				// Who stands first does not tell whether there is room.
+				e.Headers = with(with(sameLines(head("X-CACHE", "a"), sources), sameLines(head("AGE", "9"), ages)...), left...)
+				if got := impl.AnswerOf(e, 2999, "hit", false); !sameAnswer(got, answerWanted(e, 2000, "hit", false)) || got.Code != want.Code {
+					t.Errorf("%s, turned round: %d %s", what, got.Code, shownResponse(got.Response))
+				}
+			}
+		}
+	}
+	twice := headed(plain("k"), with(sameLines(head("X-Cache", "a"), 2), apartLines(18)...)...)
+	checkAnswer(t, "21 on the way, 20 at the end", twice, 2000, "hit", false, impl.ResponseResult{Response: response(200, "", with(with([]impl.Header{from}, apartLines(18)...), age)...)})
+	twice.Headers = with(apartLines(18), head("AGE", "8"), head("age", "9"))
+	checkAnswer(t, "two ages among 20", twice, 2000, "hit", false, impl.ResponseResult{Response: response(200, "", with(apartLines(18), age, from)...)})
+	twice.Headers = with(apartLines(19), head("x-cache", "9"))
+	checkAnswer(t, "one source among 20", twice, 2000, "hit", false, many)
+	checkAnswer(t, "one source among 20, and no word", twice, 2000, "a b", false, impl.ResponseResult{Code: impl.ErrText})
 }
 
 func TestRelayOf(t *testing.T) {
@@ -1129,6 +1173,16 @@ func (a mergeAnswers) equals(b mergeAnswers) bool {
 	return sameFetch(a.fetch, b.fetch) && samePeek(a.entries[0], b.entries[0]) && samePeek(a.entries[1], b.entries[1])
 }
 
+// mostOnTheWay is how many lines there are at most while those of told are set.
+func mostOnTheWay(own, told []impl.Header) int {
+	most := len(own)
+	for _, line := range told {
+		own = setAmong(own, line)
+		most = max(most, len(own))
+	}
+	return most
+}
+
 func TestManyMerges(t *testing.T) {
 	codes, turns := map[string]map[int64]int{"fetch": {}, "from": {}, "merge": {}, "answer": {}, "relay": {}, "error": {}}, map[string]int{}
 	for i, a := range manyMerged(101, 20000, 3) {
@@ -1148,6 +1202,12 @@ func TestManyMerges(t *testing.T) {
 		if lines := got.entries[1].Entry.Headers; got.entries[1].Code == impl.OK && len(lines) == 17 {
 			turns["merged at the bound"]++
 		}
+		if got.entries[1].Code == impl.OK && mostOnTheWay(a.entry.Headers, a.response.Headers) > 17 {
+			turns["merged beyond the bound on the way"]++
+		}
+		if got.told[0].Code == impl.OK && mostOnTheWay(a.entry.Headers, []impl.Header{head("Age", ""), head("X-Cache", "")}) > 20 {
+			turns["answered beyond the bound on the way"]++
+		}
 		if got.fetch.Code == impl.OK && len(valuesOf(got.fetch.Request.Headers, "if-none-match")) > 0 {
 			turns["marked"]++
 		}
@@ -1165,8 +1225,8 @@ func TestManyMerges(t *testing.T) {
 			}
 		}
 	}
-	for _, turn := range []string{"kept with tags", "merged at the bound", "marked", "relayed without room"} {
-		if turns[turn] < 100 {
+	for _, turn := range []string{"kept with tags", "merged at the bound", "merged beyond the bound on the way", "answered beyond the bound on the way", "marked", "relayed without room"} {
+		if turns[turn] < 50 {
 			t.Errorf("only %d times: %s", turns[turn], turn)
 		}
 	}
